@@ -1,0 +1,1 @@
+"""Squares left by a prime, whole: the calls are asked through squarehouse.house."""
