@@ -1,4 +1,4 @@
-"""The calls of "Between two primes": multiples that are turned, points by a line, order."""
+"""The calls of "Between two primes": multiples that are turned, points by a line, order, cards."""
 
 from squarehouse.primes import is_odd_prime
 from squarehouse.refusals import NONE_FOUND, WRONG
@@ -143,6 +143,52 @@ def turnedpairs(house, a):
     return [crossed_pairs(a, house.prime)]
 
 
+def long(house, a):
+    if a % house.prime == 0:
+        return [WRONG]
+    # All rounds are as long as that of 1.
+    length = len(round_by(a, 1, house.prime))
+    return [length, (house.prime - 1) // length]
+
+
+def fewest(house, a):
+    if a % house.prime == 0:
+        return [WRONG]
+    return [fewest_exchanges(a, house.prime)]
+
+
+def roundby(house, a, k):
+    if a % house.prime == 0 or k % house.prime == 0:
+        return [WRONG]
+    found = round_by(a, k % house.prime, house.prime)
+    return [len(found)] + found
+
+
+def is_card(number, house):
+    return number < house.prime * house.beside
+
+
+def dealt(house, i):
+    if not is_card(i, house):
+        return [WRONG]
+    return [i % house.prime * house.beside + i // house.prime]
+
+
+def dealtto(house, i):
+    if not is_card(i, house):
+        return [WRONG]
+    return [i % house.beside * house.prime + i // house.beside]
+
+
+def pairs_among(many):
+    return many * (many - 1) // 2
+
+
+def dealtpairs(house):
+    # Two rows and two columns have four cards, and of these just one pair comes the other way round.
+    return [pairs_among(house.prime) * pairs_among(house.beside)]
+
+
 BETWEEN_CALLS = {
     46: (nextbeside, 0),
     47: (fold, 2),
@@ -156,4 +202,10 @@ BETWEEN_CALLS = {
     55: (multiple, 2),
     56: (where, 2),
     57: (turnedpairs, 1),
+    58: (long, 1),
+    59: (fewest, 1),
+    60: (roundby, 2),
+    61: (dealt, 1),
+    62: (dealtto, 1),
+    63: (dealtpairs, 0),
 }

@@ -1,9 +1,12 @@
 """The house's calls, asked one behind another on one new object."""
 
 from squarehouse.again import AGAIN_CALLS
+from squarehouse.answering import ANSWERING_CALLS
 from squarehouse.between import BETWEEN_CALLS
+from squarehouse.differences import DIFFERENCES_CALLS
 from squarehouse.left import LEFT_CALLS
 from squarehouse.own import OWN_CALLS
+from squarehouse.powers import POWERS_CALLS
 from squarehouse.refusals import NOT_BEGUN
 from squarehouse.state import House
 
@@ -18,6 +21,12 @@ def entry_of(number):
         return AGAIN_CALLS[number]
     if number in BETWEEN_CALLS:
         return BETWEEN_CALLS[number]
+    if number in ANSWERING_CALLS:
+        return ANSWERING_CALLS[number]
+    if number in DIFFERENCES_CALLS:
+        return DIFFERENCES_CALLS[number]
+    if number in POWERS_CALLS:
+        return POWERS_CALLS[number]
     return OWN_CALLS[number]
 
 
@@ -28,7 +37,9 @@ def act_with(act, house, given):
         return act(house, given[0])
     if len(given) == 2:
         return act(house, given[0], given[1])
-    return act(house, given[0], given[1], given[2])
+    if len(given) == 3:
+        return act(house, given[0], given[1], given[2])
+    return act(house, given[0], given[1], given[2], given[3])
 
 
 def answer_of(house, number, given):

@@ -15,7 +15,29 @@ CALLS = (
     ("rounds", 0), ("depth", 0),
     ("nextbeside", 0), ("fold", 2), ("folds", 1), ("foldedall", 1), ("column", 1), ("row", 1),
     ("under", 0), ("over", 0), ("inside", 2), ("multiple", 2), ("where", 2), ("turnedpairs", 1),
+    ("long", 1), ("fewest", 1), ("roundby", 2), ("dealt", 1), ("dealtto", 1), ("dealtpairs", 0),
+    ("term", 1), ("out", 1), ("times", 2), ("pair", 2), ("many", 1), ("full", 1), ("first", 1), ("zero", 0),
+    ("never", 0), ("three", 0), ("ofkind", 1), ("most", 0), ("fewestanswers", 0), ("worth", 4),
+    ("productof", 0), ("with_more", 2),
+    ("put", 1), ("take", 1), ("kept", 0), ("move", 1), ("timesall", 1), ("grow", 0), ("leads", 2), ("of", 1),
+    ("common", 2), ("into", 2), ("threesround", 1), ("differ", 1), ("who", 0), ("inner", 0), ("group", 0),
+    ("greatest", 0), ("steps", 2),
+    ("split", 1), ("otherroot", 1), ("leastroot", 0), ("roots", 0), ("index", 1), ("class_of", 1), ("power", 1),
+    ("members", 1), ("firstof", 1), ("behind", 2), ("rowof", 1), ("table", 0), ("differs", 2), ("even", 1),
+    ("evenzero", 1), ("sumof", 1), ("timesclass", 2), ("opposite", 1),
 )
+# Those by which the house may become another, but begin and undo.
+CHANGING = (
+    "prime", "besides", "stayat", "bring", "termhere", "wander", "go", "on", "before", "square", "squareback",
+    "nextbeside", "term", "out", "times", "pair", "put", "take", "move", "timesall", "grow", "split", "otherroot",
+)
+# A house in which each call has something to tell: two terms, two points kept, other classes, another root.
+BUSY = ("begin 13", "go 5", "bring", "termhere", "go 4", "besides 11", "term 2", "put 7", "split 3", "otherroot 7")
+# Numbers by which each call is answered, and not refused, in that house, where 1 and 1 won't do.
+GOOD_NUMBERS = {
+    "prime": "11", "besides": "5", "stayat": "0", "nth": "1 0", "out": "0", "times": "0 2", "pair": "0 1",
+    "take": "5", "timesall": "2", "leads": "1 2", "common": "1 2", "into": "1 2", "split": "4", "otherroot": "6",
+}
 NUMBERS = {name: number for number, (name, arity) in enumerate(CALLS)}
 ARITIES = dict(CALLS)
 GREATEST = 4294967295
@@ -34,6 +56,11 @@ def packed(calls):
             raise ValueError(call)
         flat += [NUMBERS[words[0]]] + given
     return flat
+
+
+def sample(name):
+    """A call of that name that's answered in the busy house, and changes it, if it's one that may."""
+    return f"{name} {GOOD_NUMBERS.get(name, ' '.join(['1'] * ARITIES[name]))}".strip()
 
 
 def unpacked(flat):

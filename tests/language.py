@@ -1,12 +1,14 @@
 """Finds what in a package's file is outside the part of Python that the program keeps to.
 
 Not all of the rules can be seen by walking a file: those that can are here, each fault
-told as (rule, line).
+told as (rule, line). What the package does without is in language_spare.
 """
 
 import ast
 import builtins
 import re
+
+from tests.language_spare import recursion_faults, spare_faults
 
 PACKAGE = "squarehouse"
 ALLOWED_BUILTINS = set(
@@ -334,11 +336,13 @@ def package_faults(texts):
     values = set().union(*[values_in(tree) for tree in trees.values()])
     faults += [("", "L18", 0)] * len(methods & values)
     faults += [(name, "L16", 0) for name in import_cycle(trees)]
+    faults += recursion_faults(trees)
+    classes = {node.name for tree in trees.values() for node in tree.body if isinstance(node, ast.ClassDef)}
     if "__init__" not in trees:
         faults.append(("", "L14", 0))
     for name, tree in trees.items():
         found = top_faults(tree) + name_faults(tree) + method_faults(tree, methods) + walk_faults(tree)
-        found += table_faults(tree, tables)
+        found += table_faults(tree, tables) + spare_faults(texts[name + ".py"], tree, classes)
         for node in ast.walk(tree):
             if isinstance(node, ast.ImportFrom):
                 found += import_faults(node, modules)

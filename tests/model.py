@@ -8,15 +8,8 @@ from fractions import Fraction
 from functools import lru_cache
 
 from tests.asking import HOUSE_PRIMES, ODD_PRIMES
-
-
-class Refused(Exception):
-    pass
-
-
-def need(held, number):
-    if not held:
-        raise Refused(number)
+from tests.model_parts import Cards, Classes, Points, Terms
+from tests.refusing import Refused, need
 
 
 def squared(a, n, p):
@@ -46,7 +39,7 @@ def tally(terms, p):
     return found
 
 
-class Model:
+class Model(Cards, Terms, Points, Classes):
     def __init__(self):
         self.state = None
         self.history = []
@@ -153,9 +146,6 @@ class Model:
         need(len(self.state["terms"]) < 4, -28)
         self.state["terms"] += (self.at,)
         return len(self.state["terms"]) - 1
-
-    def leads(self, x, y):
-        return any((x + n * n - y) % self.p == 0 for n in range(1, self.p))
 
     def do_wander(self):
         ring = list(range(self.at + 1, self.p)) + list(range(self.at))

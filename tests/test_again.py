@@ -2,12 +2,9 @@
 
 import unittest
 
+from tests.agreeing import agree
 from tests.asking import GREATEST, HOUSE_PRIMES, ask, by, last
 from tests.model import model_answers
-
-
-def agree(test, prime, calls):
-    test.assertEqual(by(prime, calls), model_answers([f"begin {prime}"] + calls)[1:], prime)
 
 
 def odd_and_twos(number):
@@ -60,7 +57,7 @@ class Paths(unittest.TestCase):
         self.assertEqual(by(7, ["after 0 0", "after 7 3", f"after 14 {GREATEST}"]), [[-22]] * 3)
         for prime in HOUSE_PRIMES:
             for n in (0, 1, 2, 3, 4, 5, 6, 7, 11, 12, 100, 4294967290, GREATEST):
-                agree(self, prime, [f"after {a} {n}" for a in range(prime + 2)])
+                agree(self, [f"begin {prime}"], [f"after {a} {n}" for a in range(prime + 2)])
 
     def test_tail_and_foot(self):
         self.assertEqual(by(7, [f"tail {a}" for a in range(8)]), [[-22], [0], [0], [1], [0], [1], [1], [-22]])
@@ -69,7 +66,7 @@ class Paths(unittest.TestCase):
         self.assertEqual(by(17, ["tail 3", "foot 3", "tail 16", "foot 16", "tail 1"]), [[4], [1], [1], [1], [0]])
         for prime in HOUSE_PRIMES:
             numbers = list(range(prime + 2)) + [GREATEST, GREATEST - 1]
-            agree(self, prime, [f"tail {a}" for a in numbers] + [f"foot {a}" for a in numbers])
+            agree(self, [f"begin {prime}"], [f"tail {a}" for a in numbers] + [f"foot {a}" for a in numbers])
 
     def test_round_of(self):
         self.assertEqual(by(7, ["round_of 3", "round_of 5", "round_of 2", "round_of 6", "round_of 8"]),
@@ -78,12 +75,12 @@ class Paths(unittest.TestCase):
         self.assertEqual(last("begin 11", "round_of 2"), [4, 4, 5, 3, 9])
         self.assertEqual(by(7, ["round_of 0", "round_of 7"]), [[-22]] * 2)
         for prime in HOUSE_PRIMES:
-            agree(self, prime, [f"round_of {a}" for a in list(range(prime + 2)) + [GREATEST]])
+            agree(self, [f"begin {prime}"], [f"round_of {a}" for a in list(range(prime + 2)) + [GREATEST]])
 
     def test_onround(self):
         self.assertEqual(by(7, [f"onround {a}" for a in range(9)]), [[-22], [1], [1], [0], [1], [0], [0], [-22], [1]])
         for prime in HOUSE_PRIMES:
-            agree(self, prime, [f"onround {a}" for a in range(prime + 2)])
+            agree(self, [f"begin {prime}"], [f"onround {a}" for a in range(prime + 2)])
 
     def test_meet(self):
         self.assertEqual(by(7, ["meet 3 4", "meet 3 3", "meet 10 3", "meet 3 2", "meet 2 5", "meet 6 1", "meet 1 3"]),
@@ -100,7 +97,7 @@ class Paths(unittest.TestCase):
             some = [a for a in range(1, prime + 1) if prime < 40 or a % 7 in (1, 5)]
             calls = [f"meet {a} {b}" for a in range(1, prime + 1) for b in some]
             calls += [f"same {a} {b}" for a in range(1, prime + 1) for b in some]
-            agree(self, prime, calls)
+            agree(self, [f"begin {prime}"], calls)
 
     def test_they_meet_soon_or_never(self):
         for prime in HOUSE_PRIMES:
@@ -140,7 +137,7 @@ class Trees(unittest.TestCase):
         self.assertEqual(by(7, [f"comesto {a}" for a in range(9)]),
                          [[-22], [2], [4], [1], [4], [1], [1], [-22], [2]])
         for prime in HOUSE_PRIMES:
-            agree(self, prime, [f"comesto {a}" for a in list(range(prime + 2)) + [GREATEST]])
+            agree(self, [f"begin {prime}"], [f"comesto {a}" for a in list(range(prime + 2)) + [GREATEST]])
 
     def test_roundsof(self):
         self.assertEqual(by(7, [f"roundsof {k}" for k in range(8)]), [[0], [1], [1]] + [[0]] * 4 + [[-22]])
@@ -152,7 +149,7 @@ class Trees(unittest.TestCase):
         self.assertEqual(by(11, ["rounds", "depth"]), [[2, 4], [1, 2]])
         self.assertEqual(by(5, ["rounds", "depth"]), [[1, 1], [2, 2]])
         for prime in HOUSE_PRIMES:
-            agree(self, prime, ["rounds", "depth"])
+            agree(self, [f"begin {prime}"], ["rounds", "depth"])
 
     def test_who_comes_from_farthest_off(self):
         for prime in HOUSE_PRIMES:

@@ -1,13 +1,9 @@
-"""The calls of "Between two primes", as far as turnedpairs."""
+"""The calls of "Between two primes", as far as turnedpairs (the others: test_cards)."""
 
 import unittest
 
+from tests.agreeing import agree
 from tests.asking import GREATEST, HOUSE_PRIMES, ODD_PRIMES, ask, by, each, last
-from tests.model import model_answers
-
-
-def agree(test, setup, calls):
-    test.assertEqual(each(setup, calls), model_answers(setup + calls)[len(setup):], setup)
 
 
 def beside(prime, other):

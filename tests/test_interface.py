@@ -5,18 +5,14 @@ import io
 import unittest
 
 from squarehouse.house import answers
-from tests.asking import ARITIES, CALLS, GREATEST, HOUSE_PRIMES, ask, last
+from tests.asking import BUSY, CALLS, GREATEST, HOUSE_PRIMES, MOST_NUMBERS, ask, last, packed, sample
 
 ANSWER_LENGTHS = {
-    "sums": 7, "standing": 4, "keptkinds": 4, "prime": 2, "from_here": 2, "stand": 2, "part": 2,
-    "run": 2, "meet": 2, "rounds": 2, "depth": 2, "fold": 2,
+    "sums": 7, "standing": 4, "keptkinds": 4, "three": 4, "prime": 2, "from_here": 2, "stand": 2, "part": 2,
+    "run": 2, "meet": 2, "rounds": 2, "depth": 2, "fold": 2, "long": 2, "most": 2, "fewestanswers": 2, "productof": 2,
 }
-COUNTED = ("foldedall", "round_of")
-GOOD_NUMBERS = {"prime": "11", "besides": "5", "stayat": "0", "nth": "1 0"}
-
-
-def sample(name):
-    return f"{name} {GOOD_NUMBERS.get(name, ' '.join(['1'] * ARITIES[name]))}".strip()
+COUNTED = ("foldedall", "round_of", "roundby", "first", "zero", "never", "kept", "move", "timesall", "of", "common",
+           "into", "who", "greatest", "roots", "members", "rowof", "table")
 
 
 class Form(unittest.TestCase):
@@ -26,15 +22,39 @@ class Form(unittest.TestCase):
         self.assertEqual(answers(calls), told)
 
     def test_the_calls_have_the_documents_numbers(self):
-        self.assertEqual(len(CALLS), 58)
+        self.assertEqual(len(CALLS), 115)
         self.assertEqual(answers([0, 7, 27, 1, 1, 2, 57, 6]), [1, 0, 1, 1, 1, 15])
+        # long to dealtpairs, by 5 and 3.
+        self.assertEqual(answers([0, 5, 58, 2, 59, 4, 60, 4, 2, 61, 1, 62, 1, 63]),
+                         [1, 0, 2, 4, 1, 1, 2, 3, 2, 2, 3, 1, 3, 1, 5, 1, 30])
+        # term to pair, then many to with_more, by 5 with the terms 1 and 3.
+        self.assertEqual(answers([0, 5, 64, 2, 64, 4, 64, 1, 65, 2, 66, 1, 2, 67, 0, 1]),
+                         [1, 0, 1, 0, 1, 1, 1, 2, 1, 2, 1, 1, 1, 2])
+        self.assertEqual(answers([0, 5, 64, 1, 64, 3, 68, 0, 69, 4, 70, 3, 71, 72, 73, 74, 1, 75, 76,
+                                  77, 1, 1, 1, 1, 78, 79, 1, 0]),
+                         [1, 0, 1, 0, 1, 1, 1, 1, 1, 4, 3, 2, 0, 1, 1, -33, 1, 0, 4, 0, 1, 6, 6, 1, 12, 2, 6, 1,
+                          2, 1, 0, 1, 4, 2, 3, 2, 1, 25])
+        # put to grow, then leads to steps, by 5.
+        self.assertEqual(answers([0, 5, 80, 3, 80, 4, 81, 4, 82, 83, 3, 84, 2, 85]),
+                         [1, 0, 1, 1, 1, 2, 1, 1, 2, 1, 3, 2, 1, 1, 2, 1, 2, 1, 1])
+        self.assertEqual(answers([0, 5, 86, 0, 1, 87, 1, 88, 0, 2, 89, 1, 4, 90, 0, 91, 2, 80, 1, 92, 93, 94, 95,
+                                  96, 0, 3]),
+                         [1, 0, 1, 1, 3, 2, 0, 2, 2, 1, 1, 2, 1, 0, 1, 0, 1, 1, 1, 1, 3, 2, 0, 2, 1, 0, 1, 1,
+                          3, 2, 0, 1, 1, 2])
+        # split to power, then members to opposite, by 5 with two classes, 1, 4 and 2, 3.
+        self.assertEqual(answers([0, 5, 97, 4, 98, 3, 99, 100, 101, 2, 102, 4, 103, 3]),
+                         [1, 0, 1, 1, 1, 3, 1, 2, 3, 2, 2, 3, 1, 3, 1, 2, 1, 2])
+        self.assertEqual(answers([0, 5, 104, 1, 105, 1, 106, 0, 1, 107, 1, 108, 109, 0, 2, 110, 0, 111, 0, 112, 1,
+                                  113, 0, 2, 114, 0]),
+                         [1, 0, 3, 2, 2, 3, 1, 2, 1, 1, 3, 2, 1, 1, 5, 4, 0, 1, 1, 1, 1, 1, 1, 0, 1, 0, 1, 5,
+                          1, 1, 1, 0])
 
     def test_as_many_numbers_as_told(self):
         for name, arity in CALLS:
             if name == "begin":
                 continue
             with self.subTest(name):
-                found = last("begin 7", "go 3", "bring", "go 1", sample(name))
+                found = last(*BUSY, sample(name))
                 self.assertGreaterEqual(found[0], 0)
                 if name in COUNTED:
                     self.assertEqual(len(found), found[0] + 1)
@@ -42,9 +62,16 @@ class Form(unittest.TestCase):
                     self.assertEqual(len(found), ANSWER_LENGTHS.get(name, 1))
 
     def test_a_refusal_is_its_number_alone(self):
-        for call in ("prime 9", "part 0", "run 3", "meet 7 1", "fold 1 0", "foldedall 7", "round_of 0"):
+        for call in ("prime 9", "part 0", "run 3", "meet 7 1", "fold 1 0", "foldedall 7", "round_of 0", "long 0",
+                     "roundby 1 0", "timesall 0", "common 1 1", "into 2 2"):
             with self.subTest(call):
                 self.assertEqual(last("begin 7", call), [-22])
+        for call in ("first 1", "zero", "greatest"):
+            with self.subTest(call):
+                self.assertEqual(last("begin 7", call), [-33])
+        for call in ("of 7", "common 7 1", "into 1 7", "members 2", "rowof 2"):
+            with self.subTest(call):
+                self.assertEqual(last("begin 7", call), [-2])
 
     def test_a_whole_list_of_plain_whole_numbers(self):
         for number, (name, arity) in enumerate(CALLS):
@@ -56,15 +83,27 @@ class Form(unittest.TestCase):
     def test_eighty_calls_and_four_hundred_numbers(self):
         self.assertEqual(len(ask("begin 97", *["stand"] * 79)), 80)
         self.assertEqual(len(ask("begin 97", *["threes 1 2 1"] * 79)), 80)
+        calls = ["begin 97", "sums"] + ["worth 1 2 3 4"] * 78
+        self.assertLessEqual(len(packed(calls)), MOST_NUMBERS)
+        self.assertEqual(ask(*calls)[2:], [[0]] * 78)
 
     def test_any_call_may_be_first_and_the_only_one(self):
         self.assertEqual(answers([0, 5]), [1, 0])
         self.assertEqual(answers([0, 4]), [1, -22])
         self.assertEqual(answers([57, 2]), [1, -11])
+        self.assertEqual(answers([114, 0]), [1, -11])
+        self.assertEqual(answers([77, 1, 2, 3, 4]), [1, -11])
+
+    def test_only_the_second_number_of_part_may_be_below_0(self):
+        for name, arity in CALLS:
+            if name not in ("begin", "undo", "part"):
+                self.assertGreaterEqual(min(last(*BUSY, sample(name))), 0)
+        self.assertEqual(last("begin 43", "part 5"), [0, -2])
 
 
 class Kept(unittest.TestCase):
-    CALLS = [0, 13, 16, 6, 7, 8, 1, 7, 5, 19, 17, 1, 32, 46, 2, 3, 4, 15, 37, 5, 49, 2]
+    CALLS = [0, 13, 16, 6, 7, 8, 1, 7, 5, 19, 17, 1, 32, 46, 2, 3, 4, 15, 37, 5, 49, 2, 64, 3, 66, 0, 2, 67, 0, 1,
+             65, 0, 80, 4, 83, 2, 84, 3, 85, 81, 6, 82, 97, 3, 98, 5, 70, 1, 72, 92, 95, 100, 108, 2, 2, 4]
 
     def test_the_list_is_the_same_afterwards(self):
         handed = list(self.CALLS)

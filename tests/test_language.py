@@ -49,7 +49,31 @@ BREAKING = (
     ("L25", "def one(xs):\n    xs.sort()\n"),
     ("L27", "def one(n):\n    return 2 ** n\n"),
     ("L27", "ONE = \"1 % 2\"\n"),
+    ("L4", "def one():\n    def two():\n        return 2\n    return two()\n"),
+    ("L4", "def one(x=1):\n    return x\n"),
+    ("L8", "def one():\n    return __name__\n"),
+    ("L9", "def one():\n    print(1)\n"),
+    ("L9", "def one():\n    return open(1)\n"),
+    ("L11", "def one(x):\n    return one(x)\n"),
+    ("L11", "def one(x):\n    return two(x)\n\n\ndef two(x):\n    return one(x)\n"),
+    ("L11", "def one(xs):\n    return set(xs).pop()\n"),
+    ("L13", "def one():\n    return {1, 2, 3}\n"),
+    ("L13", "def one():\n    return [lambda x: x, lambda x: 1]\n"),
+    ("L18", "class One:\n    pass\n\n\ndef one():\n    return [One]\n"),
+    ("L18", "class One:\n    pass\n\n\ndef one():\n    One.many = 1\n"),
+    ("L19", "def one(xs):\n    try:\n        return xs[0]\n    except Exception:\n        return 0\n"),
+    ("L19", "def one():\n    raise ValueError\n"),
+    ("L22", "def one(xs):\n    size = len\n    return size(xs)\n"),
+    ("L22", "def one(xs):\n    return dict(a=xs)\n"),
+    ("L24", "def one(xs):\n    two = set(xs)\n    return two\n"),
+    ("L26", "class One:\n    def __init__(self):\n        self.items = []\n"),
+    ("L26", "class One:\n    def encode(self):\n        return 1\n"),
+    ("L27", "def one():\n    return chr(65)\n"),
+    ("L27", "ONE = \"\\x41\"\n"),
+    ("L28", "class One:\n    def __init__(self):\n        return None\n"),
+    ("L28", "class One:\n    def __len__(self):\n        return 1 + 1\n"),
 )
+EVERY_RULE = [f"L{number}" for number in range(1, 29)]
 
 
 class Language(unittest.TestCase):
@@ -73,6 +97,17 @@ class Language(unittest.TestCase):
             with self.subTest(rule, text=text):
                 texts = {"__init__.py": "", "other.py": "def two():\n    return 2\n", "one.py": text}
                 self.assertIn(rule, [fault[1] for fault in package_faults(texts)])
+
+    def test_every_rule_is_looked_for(self):
+        # L1 is looked for by the files' names.
+        self.assertEqual(sorted({rule for rule, text in BREAKING} | {"L1"}), sorted(EVERY_RULE))
+        self.assertIn("L1", [fault[1] for fault in package_faults({"__init__.py": "", "One.py": ""})])
+
+    def test_what_keeps_the_rules_is_not_found(self):
+        text = ("ONE = 1\n\n\ndef one(xs):\n    return [x + ONE for x in xs if x > 0]\n\n\n"
+                "class Two:\n    def __init__(self):\n        self.three = one([1])\n\n"
+                "    def four(self):\n        return Two().three\n\n\nFIVE = {1: (one, 2)}\n")
+        self.assertEqual(package_faults({"__init__.py": "", "one.py": text}), [])
 
     def test_a_wrong_name_of_a_file_is_found(self):
         for name in ("test_one.py", "len.py", "One.py", "site.py", "enum.py"):

@@ -2,15 +2,12 @@
 
 import unittest
 
+from tests.agreeing import agree
 from tests.asking import GREATEST, HOUSE_PRIMES, ask, by, last
 from tests.model import model_answers
 
 KINDS = (1, 2)
 NO_KINDS = (0, 3, 4, GREATEST)
-
-
-def agree(test, prime, calls):
-    test.assertEqual(by(prime, calls), model_answers([f"begin {prime}"] + calls)[1:], prime)
 
 
 class Standing(unittest.TestCase):
@@ -66,7 +63,7 @@ class Kinds(unittest.TestCase):
         self.assertEqual(by(7, [f"kind {a}" for a in range(9)]), [[0], [1], [1], [2], [1], [2], [2], [0], [1]])
         self.assertEqual(by(5, [f"kind {a}" for a in range(6)]), [[0], [1], [2], [2], [1], [0]])
         for prime in HOUSE_PRIMES:
-            agree(self, prime, [f"kind {a}" for a in list(range(prime + 2)) + [GREATEST, GREATEST - 1]])
+            agree(self, [f"begin {prime}"], [f"kind {a}" for a in list(range(prime + 2)) + [GREATEST, GREATEST - 1]])
 
     def test_manyof(self):
         self.assertEqual(by(7, [f"manyof 1 {n}" for n in range(8)]), [[0], [1], [2], [2], [3], [3], [3], [-22]])
@@ -74,14 +71,14 @@ class Kinds(unittest.TestCase):
         self.assertEqual(by(7, ["manyof 0 1", "manyof 3 1", f"manyof {GREATEST} 1", f"manyof 1 {GREATEST}",
                                 "manyof 0 7"]), [[-22]] * 5)
         for prime in HOUSE_PRIMES:
-            agree(self, prime, [f"manyof {u} {n}" for u in KINDS for n in range(prime + 2)])
+            agree(self, [f"begin {prime}"], [f"manyof {u} {n}" for u in KINDS for n in range(prime + 2)])
 
     def test_nth(self):
         self.assertEqual(by(7, [f"nth 1 {k}" for k in range(4)]), [[1], [2], [4], [-33]])
         self.assertEqual(by(7, [f"nth 2 {k}" for k in range(4)]), [[3], [5], [6], [-33]])
         self.assertEqual(last("begin 7", f"nth 1 {GREATEST}"), [-33])
         for prime in HOUSE_PRIMES:
-            agree(self, prime, [f"nth {u} {k}" for u in KINDS for k in range(prime // 2 + 2)])
+            agree(self, [f"begin {prime}"], [f"nth {u} {k}" for u in KINDS for k in range(prime // 2 + 2)])
 
     def test_nth_refuses_the_kind_first(self):
         self.assertEqual(by(7, ["nth 0 0", "nth 3 0", "nth 0 3", f"nth 3 {GREATEST}"]), [[-22]] * 4)
@@ -90,20 +87,20 @@ class Kinds(unittest.TestCase):
         self.assertEqual(by(7, [f"place {a}" for a in range(9)]),
                          [[-22], [0], [1], [0], [2], [1], [2], [-22], [0]])
         for prime in HOUSE_PRIMES:
-            agree(self, prime, [f"place {a}" for a in list(range(prime + 2)) + [GREATEST, GREATEST - 1]])
+            agree(self, [f"begin {prime}"], [f"place {a}" for a in list(range(prime + 2)) + [GREATEST, GREATEST - 1]])
 
     def test_sum_of_kind(self):
         self.assertEqual(by(7, ["sum_of_kind 1", "sum_of_kind 2"]), [[7], [14]])
         self.assertEqual(by(7, [f"sum_of_kind {u}" for u in NO_KINDS]), [[-22]] * 4)
         for prime in HOUSE_PRIMES:
-            agree(self, prime, ["sum_of_kind 1", "sum_of_kind 2"])
+            agree(self, [f"begin {prime}"], ["sum_of_kind 1", "sum_of_kind 2"])
 
     def test_product(self):
         self.assertEqual(by(7, ["product 1", "product 2"]), [[1], [6]])
         self.assertEqual(by(5, ["product 1", "product 2"]), [[4], [1]])
         self.assertEqual(by(7, [f"product {u}" for u in NO_KINDS]), [[-22]] * 4)
         for prime in HOUSE_PRIMES:
-            agree(self, prime, ["product 1", "product 2"])
+            agree(self, [f"begin {prime}"], ["product 1", "product 2"])
 
     def test_least(self):
         leasts = {5: 2, 7: 3, 23: 5, 47: 5, 71: 7, 73: 5, 97: 5}
@@ -130,7 +127,7 @@ class Part(unittest.TestCase):
 
     def test_all_parts(self):
         for prime in HOUSE_PRIMES:
-            agree(self, prime, [f"part {k}" for k in range(prime + 3)])
+            agree(self, [f"begin {prime}"], [f"part {k}" for k in range(prime + 3)])
 
     def test_half_quarter_and_third(self):
         for prime in HOUSE_PRIMES:
@@ -171,7 +168,7 @@ class Rows(unittest.TestCase):
                          [[1], [1], [1], [1], [0], [0], [0], [0]])
         self.assertEqual(by(5, ["threes 1 2 2", "threes 2 2 1", "threes 1 2 1"]), [[1], [1], [0]])
         for prime in HOUSE_PRIMES:
-            agree(self, prime, [f"threes {u} {v} {w}" for u in KINDS for v in KINDS for w in KINDS])
+            agree(self, [f"begin {prime}"], [f"threes {u} {v} {w}" for u in KINDS for v in KINDS for w in KINDS])
 
     def test_run(self):
         self.assertEqual(by(7, ["run 1", "run 2", "runs 1", "runs 2"]), [[2, 1], [2, 5], [2], [2]])
@@ -181,7 +178,7 @@ class Rows(unittest.TestCase):
         # By 13 the runs of two, 3, 4 and 9, 10, are as long: the former is told.
         self.assertEqual(by(13, ["run 1", "run 2", "runs 1", "runs 2"]), [[2, 3], [4, 5], [4], [3]])
         for prime in HOUSE_PRIMES:
-            agree(self, prime, ["run 1", "run 2", "runs 1", "runs 2"])
+            agree(self, [f"begin {prime}"], ["run 1", "run 2", "runs 1", "runs 2"])
 
     def test_other_kinds_are_refused(self):
         for u in NO_KINDS:

@@ -4,11 +4,9 @@ import random
 import unittest
 
 from squarehouse.house import answers
-from tests.asking import CALLS, GREATEST, HOUSE_PRIMES, MOST_CALLS, MOST_NUMBERS, ODD_PRIMES, packed, unpacked
+from tests.asking import CALLS, CHANGING, GREATEST, HOUSE_PRIMES, MOST_CALLS, MOST_NUMBERS, ODD_PRIMES, packed
+from tests.asking import unpacked
 from tests.model import model_answers
-
-CHANGING = ("prime", "besides", "stayat", "bring", "termhere", "wander", "go", "on", "before", "square",
-            "squareback", "nextbeside", "undo")
 
 
 def some_number(dice, name):
@@ -24,7 +22,7 @@ def some_calls(dice):
     while len(calls) < MOST_CALLS:
         name, arity = dice.choice(CALLS)
         if dice.random() < 0.5:
-            name, arity = dice.choice([call for call in CALLS if call[0] in CHANGING])
+            name, arity = dice.choice([call for call in CALLS if call[0] in CHANGING + ("undo",)])
         if name == "begin" and dice.random() < 0.8:
             name, arity = "sums", 0
         calls.append(" ".join([name] + [str(some_number(dice, name)) for one in range(arity)]))
@@ -33,7 +31,7 @@ def some_calls(dice):
 
 class Whole(unittest.TestCase):
     def test_against_the_model(self):
-        for seed in range(400):
+        for seed in range(600):
             calls = some_calls(random.Random(seed))
             flat = packed(calls)
             self.assertLessEqual(len(flat), MOST_NUMBERS)
@@ -45,12 +43,13 @@ class Whole(unittest.TestCase):
                 self.assertEqual(one, other, (seed, call))
 
     def test_the_house_stays_sound(self):
-        for seed in range(100):
-            calls = some_calls(random.Random(1000 + seed))[:39]
-            asked = [f"begin {HOUSE_PRIMES[seed % len(HOUSE_PRIMES)]}", "sums"]
-            for call in calls:
-                asked += [call, "sums"]
-            for told in unpacked(answers(packed(asked)))[1::2]:
+        for seed in range(200):
+            calls = some_calls(random.Random(1000 + seed))[:26]
+            asked = [f"begin {HOUSE_PRIMES[seed % len(HOUSE_PRIMES)]}", "sums", "kept"]
+            for call in calls[1:]:
+                asked += [call, "sums", "kept"]
+            found = unpacked(answers(packed(asked)))
+            for told, kept in zip(found[1::3], found[2::3]):
                 prime, at, beside, terms, points, classes, root = told
                 self.assertIn(prime, HOUSE_PRIMES)
                 self.assertIn(at, range(prime))
@@ -58,7 +57,12 @@ class Whole(unittest.TestCase):
                 self.assertNotEqual(beside, prime)
                 self.assertIn(terms, range(5))
                 self.assertIn(points, range(min(12, prime) + 1))
-                self.assertEqual(classes, 2)
+                self.assertEqual(kept[0], points)
+                self.assertEqual(len(set(kept[1:])), points)
+                self.assertTrue(all(x in range(prime) for x in kept[1:]))
+                self.assertIn(classes, range(2, 9))
+                self.assertEqual((prime - 1) % classes, 0)
+                self.assertIn(root, range(2, prime))
                 self.assertEqual(len({pow(root, n, prime) for n in range(prime)}), prime - 1)
 
 
